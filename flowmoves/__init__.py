@@ -1,0 +1,1 @@
+"""Congestion-free flow migration planner."""

@@ -1,0 +1,10 @@
+"""The limits that the calls check."""
+
+LEAST_NODES = 2
+MOST_NODES = 6
+MOST_LINKS = 10
+MOST_CAPACITY = 99
+MOST_FLOWS = 5
+LEAST_DEMAND = 1
+MOST_DEMAND = 99
+MOST_PATHS = 3
