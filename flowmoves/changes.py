@@ -1,8 +1,9 @@
-"""The calls that change a network. Each gives back the numbers that it answers."""
+"""The calls that build a network and change its traffic. Each gives back the numbers that it answers."""
 
 from flowmoves.codes import INACTIVE, INVALID, LIMIT_REACHED, MISSING, NO_ROOM, TAKEN
 from flowmoves.limits import LEAST_DEMAND, MOST_CAPACITY, MOST_DEMAND, MOST_FLOWS, MOST_LINKS, MOST_PATHS
-from flowmoves.loads import has_room, links_entered, loads_under
+from flowmoves.loads import has_room, loads_under
+from flowmoves.moves import allowed_moves
 from flowmoves.network import Flow, Link, Path
 from flowmoves.network import has_flow, has_link, has_node, has_path, is_path_of, link_between, links_along
 
@@ -52,7 +53,8 @@ def place_flow(network, flow, path):
     if network.assignment[flow] > 0:
         return [TAKEN]
     placed = network.flows[flow]
-    if not has_room(network, network.assignment, placed.paths[path].links, placed.demand):
+    loads = loads_under(network, network.assignment)
+    if not has_room(network, loads, placed.paths[path].links, placed.demand):
         return [NO_ROOM]
     network.assignment[flow] = path + 1
     return [placed.demand]
@@ -76,9 +78,7 @@ def move_flow(network, flow, path):
         return [INACTIVE]
     if choice == path + 1:
         return [TAKEN]
-    moved = network.flows[flow]
-    entered = links_entered(moved.paths[choice - 1], moved.paths[path])
-    if not has_room(network, network.assignment, entered, moved.demand):
+    if (flow, path) not in allowed_moves(network, network.assignment):
         return [NO_ROOM]
     network.assignment[flow] = path + 1
     return [choice - 1]

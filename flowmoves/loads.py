@@ -10,14 +10,15 @@ def loads_under(network, assignment):
     return loads
 
 
-def has_room(network, assignment, links, demand):
-    loads = loads_under(network, assignment)
-    for link in links:
-        if loads[link] + demand > network.links[link].capacity:
+def is_feasible(network, assignment):
+    for load, link in zip(loads_under(network, assignment), network.links):
+        if load > link.capacity:
             return False
     return True
 
 
-# A moved flow already has its room on the links that both paths use.
-def links_entered(old_path, new_path):
-    return [link for link in new_path.links if link not in old_path.links]
+def has_room(network, loads, links, demand):
+    for link in links:
+        if loads[link] + demand > network.links[link].capacity:
+            return False
+    return True

@@ -54,6 +54,10 @@ def link_between(network, node_a, node_b):
     return None
 
 
+def links_at(network, node):
+    return [index for index, link in enumerate(network.links) if node in (link.node_a, link.node_b)]
+
+
 def links_along(network, nodes):
     return [link_between(network, here, there) for here, there in zip(nodes, nodes[1:])]
 
@@ -65,3 +69,7 @@ def is_path_of(network, flow, nodes):
         return False
     # A node that doesn't exist has no link, so it needs no check of its own.
     return None not in links_along(network, nodes)
+
+
+def uses_link(flow, choice, link):
+    return choice > 0 and link in flow.paths[choice - 1].links

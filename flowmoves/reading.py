@@ -10,9 +10,19 @@ MOVE_FLOW = 6
 SET_CAPACITY = 7
 LINK_LOADS = 8
 ASSIGNMENT = 9
+ALLOWED_MOVES = 10
+PLAN_TO = 11
+PLAN_LINK_DRAIN = 12
+PLAN_NODE_DRAIN = 13
+DRAIN_LINK = 14
+REACHABLE_COUNT = 15
+COMPONENT_COUNT = 16
+STUCK_FLOWS = 17
+FLOW_PATHS = 18
+TOTALS = 19
 
 # How many whole numbers each call has, in the order of the calls above; a row's own count is not among them.
-NUMBER_COUNTS = (1, 3, 3, 1, 2, 1, 2, 2, 0, 0)
+NUMBER_COUNTS = (1, 3, 3, 1, 2, 1, 2, 2, 0, 0, 0, 0, 1, 1, 1, 0, 0, 1, 1, 0)
 
 
 class Call:
@@ -31,7 +41,7 @@ def read_calls(calls):
         position = start + NUMBER_COUNTS[operation]
         numbers = calls[start:position]
         row = []
-        if operation == ADD_PATH:
+        if operation in (ADD_PATH, PLAN_TO):
             start = position + 1
             position = start + calls[position]
             row = calls[start:position]

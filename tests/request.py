@@ -45,6 +45,46 @@ def assignment():
     return [9]
 
 
+def allowed_moves():
+    return [10]
+
+
+def plan_to(target):
+    return [11, len(target)] + list(target)
+
+
+def plan_link_drain(link):
+    return [12, link]
+
+
+def plan_node_drain(node):
+    return [13, node]
+
+
+def drain_link(link):
+    return [14, link]
+
+
+def reachable_count():
+    return [15]
+
+
+def component_count():
+    return [16]
+
+
+def stuck_flows(link):
+    return [17, link]
+
+
+def flow_paths(flow):
+    return [18, flow]
+
+
+def totals():
+    return [19]
+
+
 def joined(calls):
     return [number for call in calls for number in call]
 
@@ -71,7 +111,7 @@ def last_result(calls):
 
 def probe():
     """Calls whose answers show all of the state: loads, assignment, every path, the limits that are left."""
-    calls = [link_loads(), assignment()]
+    calls = [link_loads(), assignment(), totals()] + [flow_paths(flow) for flow in range(5)]
     calls += [stop_flow(flow) for flow in range(5)]
     calls += [set_capacity(link, 99) for link in range(10)]
     for flow in range(5):
@@ -94,4 +134,13 @@ class Refusals:
     def check_refused(self, calls, call, code):
         refused, afterwards, otherwise = with_probe(calls, call)
         self.assertEqual(refused, [code])
+        self.assertEqual(afterwards, otherwise)
+
+
+class Questions(Refusals):
+    """For a unittest.TestCase: a call that only tells leaves the state as it was, whatever it answers."""
+
+    def check_told(self, calls, call, told):
+        answered, afterwards, otherwise = with_probe(calls, call)
+        self.assertEqual(answered, told)
         self.assertEqual(afterwards, otherwise)
